@@ -1,0 +1,1 @@
+"""Everalike: two webs alike, whatever is put to them."""

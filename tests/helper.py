@@ -1,0 +1,117 @@
+"""What several tests need: odd things, webs, and ways to ask."""
+
+import copy
+import itertools
+
+LETTERS = "abcdefghijklmnopqrstuvwxyz"
+KINDS = ("standing", "whole", "grounded", "preferred", "stable")
+
+
+def deep(make, depth):
+    """A thing that is as deep as told, made by wrapping again and again."""
+    thing = "a"
+    for step in range(depth):
+        thing = make(thing)
+    return thing
+
+
+# Things of anything, none of which is a web, a name, a lot or a kind.
+ODD = (
+    0, 1, -1, 2, 10 ** 30 - 1, -(10 ** 30 - 1), True, False, None,
+    "", " ", "A", "a b", "a1", "a:", "abcdefg", "a\t", "a\n", "\n", "~", "z" * 80, "standin", "Whole", "standing ",
+    [], [[], []], ["a"], ["standing"], [("a",), ()], {}, {"a": "b"}, {"a": ()}, {(): ()}, {1: [2]},
+    (1,), (None,), (True, False), (1, 2), ((), (), ()), ((),), (("",), ()), ("A",), (("a",),), ([], []),
+    ("standing",) * 3, tuple(range(3000)), list(range(3000)), ["a"] * 2999,
+    deep(lambda thing: [thing], 14), deep(lambda thing: (thing,), 14), deep(lambda thing: {"a": thing}, 14),
+    deep(lambda thing: (thing, thing), 10), deep(lambda thing: [(thing,)], 7),
+)
+
+NO_WEBS = ODD + (
+    (), "a", "standing", ("a",), ("a", "b"), (("a",), None), (None, ()), (("a",), (), ()),
+    [("a",), ()], (["a"], ()), (("a",), []), (("a",), [("a", "a")]), (("a",), (["a", "a"],)),
+    (("b", "a"), ()), (("a", "a"), ()), (("a",), (("a", "b"),)), (("a",), (("a",),)),
+)
+
+
+def row(many):
+    """The web in which each name but the last strikes the next one."""
+    names = tuple(LETTERS[:many])
+    return (names, tuple(zip(names, names[1:])))
+
+
+def ring(many):
+    """The web in which each name strikes the next one, and the last the first."""
+    names = tuple(LETTERS[:many])
+    return (names, tuple(sorted(zip(names, names[1:] + names[:1]))))
+
+
+def rivals(many):
+    """The web of pairs of names that strike one another, as many pairs as told."""
+    names = tuple(LETTERS[:2 * many])
+    return (names, tuple(sorted(zip(names, [LETTERS[at ^ 1] for at in range(2 * many)]))))
+
+
+def every_strike(names):
+    """All strikes of the names, rising."""
+    return tuple(itertools.product(names, repeat=2))
+
+
+def all_webs(names):
+    """Every web of the names."""
+    every = every_strike(names)
+    return [(names, tuple(itertools.compress(every, bits))) for bits in itertools.product((0, 1), repeat=len(every))]
+
+
+def picked_webs(names, many, seed=1):
+    """Some webs of the names, the same ones each time: from few strikes to many."""
+    every = every_strike(names)
+    told = []
+    for at in range(many):
+        strikes = []
+        for strike in every:
+            seed = (seed * 1103515245 + 12345) & 0x7FFFFFFF
+            if (seed >> 16) % 9 < 1 + at % 5:
+                strikes.append(strike)
+        told.append((names, tuple(strikes)))
+    return told
+
+
+def all_lots(names):
+    """Every rising tuple of some of the names, rising."""
+    return sorted(lot for size in range(len(names) + 1) for lot in itertools.combinations(names, size))
+
+
+class Asking:
+    """Ways to ask that each test case has beside its own."""
+
+    def refused(self, error, ask, *parts, **named):
+        """The error by which asking is refused, of just the class told; nothing handed in is changed."""
+        before = copy.deepcopy((parts, named))
+        with self.assertRaises(error) as caught:
+            ask(*parts, **named)
+        self.assertIs(type(caught.exception), error)
+        self.assertEqual(repr((parts, named)), repr(before))
+        return caught.exception
+
+    def steady(self, ask, **named):
+        """What is told, the same again and by names in another order; nothing handed in is changed."""
+        before = repr(named)
+        told = ask(*named.values())
+        for other in (ask(*named.values()), ask(**named), ask(**dict(reversed(list(named.items()))))):
+            self.assertEqual(repr(other), repr(told))
+            if isinstance(told, list):
+                self.assertIsNot(other, told)
+        self.assertEqual(repr(named), before)
+        return told
+
+    def own(self, ask, *parts):
+        """What is told: a list that the asker may change without changing what is told next."""
+        told = ask(*parts)
+        self.assertIs(type(told), list)
+        kept = list(told)
+        told.append("put in")
+        told.reverse()
+        self.assertEqual(ask(*parts), kept)
+        told.clear()
+        self.assertEqual(ask(*parts), kept)
+        return kept
