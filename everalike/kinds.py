@@ -40,14 +40,35 @@ def peaceful_lots(web):
     return sorted(found)
 
 
+def is_peaceful(web, lot):
+    """Whether none of a lot strikes one of it."""
+    return not any([one in lot and other in lot for one, other in web[1]])
+
+
+def is_standing(web, lot):
+    """Whether a peaceful lot defends each name of its own."""
+    return is_within(lot, defended(web, lot))
+
+
+def is_whole(web, lot):
+    """Whether a peaceful lot has just the names that it defends."""
+    return lot == defended(web, lot)
+
+
+def is_stable(web, lot):
+    """Whether each name that a peaceful lot lacks is struck by one of it."""
+    hit = hit_by(web, lot)
+    return all([name in lot or name in hit for name in web[0]])
+
+
 def standing_lots(web):
     """The rising list of the lots that defend each name of their own."""
-    return [lot for lot in peaceful_lots(web) if is_within(lot, defended(web, lot))]
+    return [lot for lot in peaceful_lots(web) if is_standing(web, lot)]
 
 
 def whole_lots(web):
     """The rising list of the lots that have just the names that they defend."""
-    return [lot for lot in peaceful_lots(web) if lot == defended(web, lot)]
+    return [lot for lot in peaceful_lots(web) if is_whole(web, lot)]
 
 
 def grounded_lots(web):
@@ -71,12 +92,6 @@ def preferred_lots(web):
     return sorted(found)
 
 
-def is_stable(web, lot):
-    """Whether each name that a peaceful lot lacks is struck by one of it."""
-    hit = hit_by(web, lot)
-    return all([name in lot or name in hit for name in web[0]])
-
-
 def stable_lots(web):
     """The rising list of the lots that strike each name that they lack."""
     return [lot for lot in peaceful_lots(web) if is_stable(web, lot)]
@@ -90,6 +105,13 @@ FINDERS = {
     "stable": stable_lots,
     "standing": standing_lots,
     "whole": whole_lots,
+}
+
+# Of the other two kinds a lot can't be judged without looking at the others.
+JUDGES = {
+    "stable": is_stable,
+    "standing": is_standing,
+    "whole": is_whole,
 }
 
 
@@ -111,3 +133,8 @@ def lots(web, kind):
 def is_lot_of(web, kind, thing):
     """Whether a thing of anything is a lot of a kind of a web."""
     return thing in lots(web, kind)
+
+
+def lots_apart(one, other, kind):
+    """The rising list of the lots of a kind of just one of two webs."""
+    return sorted(set(lots(one, kind)) ^ set(lots(other, kind)))

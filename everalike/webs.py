@@ -1,6 +1,6 @@
 """Webs: names that strike one another."""
 
-from everalike.errors import NoName, NoWeb, TooMany
+from everalike.errors import NoLot, NoName, NoPair, NoWeb, TooMany
 
 LONGEST_NAME = 6
 MOST_NAMES = 12
@@ -61,6 +61,26 @@ def check_name(web, thing):
         raise NoName("no name of the web")
 
 
+def is_lot(web, thing):
+    """Whether a thing of anything is a lot of a web."""
+    if not isinstance(thing, tuple):
+        return False
+    # Parts that are no names may not compare, so whether they rise is asked last.
+    return all([part in web[0] for part in thing]) and is_rising(thing)
+
+
+def check_lot(web, thing):
+    """Refuse what is no lot of a web."""
+    if not is_lot(web, thing):
+        raise NoLot("no lot of the web, a rising tuple of its names")
+
+
+def check_pair(one, other):
+    """Refuse two webs of unlike names."""
+    if one[0] != other[0]:
+        raise NoPair("the webs have unlike names")
+
+
 def strikers(web, name):
     """The rising list of the names that strike a name."""
     check_web(web)
@@ -75,11 +95,16 @@ def struck(web, name):
     return [other for one, other in web[1] if one == name]
 
 
+def names_of_both(one, other):
+    """The rising list of the names of two webs."""
+    return sorted(set(one[0]) | set(other[0]))
+
+
 def together(one, other):
     """The web with the names and the strikes of both."""
     check_web(one)
     check_web(other)
-    names = sorted(set(one[0]) | set(other[0]))
+    names = names_of_both(one, other)
     if len(names) > MOST_NAMES:
         raise TooMany(len(names), MOST_NAMES)
     strikes = sorted(set(one[1]) | set(other[1]))

@@ -32,6 +32,8 @@ NO_WEBS = ODD + (
     (("b", "a"), ()), (("a", "a"), ()), (("a",), (("a", "b"),)), (("a",), (("a",),)),
 )
 
+NO_KINDS = ODD + ((), "a", ("standing",), ["whole"], "stand", "STABLE", "complete", "standing whole", {"whole": "stable"})
+
 
 def row(many):
     """The web in which each name but the last strikes the next one."""
@@ -79,6 +81,63 @@ def picked_webs(names, many, seed=1):
 def all_lots(names):
     """Every rising tuple of some of the names, rising."""
     return sorted(lot for size in range(len(names) + 1) for lot in itertools.combinations(names, size))
+
+
+def peaceful(web, lot):
+    return not any((one, other) in web[1] for one in lot for other in lot)
+
+
+def defends(web, lot, name):
+    return all(any((by, one) in web[1] for by in lot) for one, other in web[1] if other == name)
+
+
+def by_the_words(web):
+    """The lots of each kind, straight from the words of point [20]."""
+    names = web[0]
+    every = all_lots(names)
+    standing = [lot for lot in every if peaceful(web, lot) and all(defends(web, lot, name) for name in lot)]
+    whole = [lot for lot in standing if all(name in lot for name in names if defends(web, lot, name))]
+    return {
+        "standing": standing,
+        "whole": whole,
+        "grounded": [lot for lot in whole if all(set(lot) <= set(other) for other in whole)],
+        "preferred": [lot for lot in standing if not any(set(lot) < set(other) for other in standing)],
+        "stable": [
+            lot for lot in every
+            if peaceful(web, lot) and all(any((by, name) in web[1] for by in lot) for name in names if name not in lot)
+        ],
+    }
+
+
+def put_together(one, other):
+    """Two webs put together, straight from the words of point [11], however many names that makes."""
+    return (tuple(sorted({*one[0], *other[0]})), tuple(sorted({*one[1], *other[1]})))
+
+
+def turned_by_hand(web, changes):
+    """A web behind changes, straight from the words of point [50]."""
+    kept = [strike for strike in web[1] if strike not in changes]
+    return (web[0], tuple(sorted(kept + [strike for strike in changes if strike not in web[1]])))
+
+
+def idle_by_the_words(web, kind, strike):
+    """Whether a strike of a web is idle for a kind, straight from the words of point [30]."""
+    a, b = strike
+    if a == b:
+        return False
+    a_itself, b_itself, b_a = (a, a) in web[1], (b, b) in web[1], (b, a) in web[1]
+    return {
+        "stable": a_itself,
+        "standing": a_itself and (b_a or b_itself),
+        "preferred": a_itself and (b_a or b_itself),
+        "whole": a_itself and b_itself,
+        "grounded": b_itself and (a_itself or b_a),
+    }[kind]
+
+
+def kernel_by_the_words(web, kind):
+    """The kernel of a web, straight from the words of point [30]."""
+    return (web[0], tuple(strike for strike in web[1] if not idle_by_the_words(web, kind, strike)))
 
 
 class Asking:

@@ -6,36 +6,10 @@ import unittest
 from everalike.errors import NoKind, NoWeb
 from everalike.kinds import is_lot_of, lots
 from tests.helper import (
-    KINDS, LETTERS, NO_WEBS, ODD, Asking, all_lots, all_webs, every_strike, picked_webs, ring, rivals, row,
+    KINDS, LETTERS, NO_WEBS, ODD, Asking, all_lots, all_webs, by_the_words, every_strike, picked_webs, ring, rivals, row,
 )
 
 NOTHING = [()]
-
-
-def peaceful(web, lot):
-    return not any((one, other) in web[1] for one in lot for other in lot)
-
-
-def defends(web, lot, name):
-    return all(any((by, one) in web[1] for by in lot) for one, other in web[1] if other == name)
-
-
-def by_the_words(web):
-    """The lots of each kind, straight from the words of point [20]."""
-    names = web[0]
-    every = all_lots(names)
-    standing = [lot for lot in every if peaceful(web, lot) and all(defends(web, lot, name) for name in lot)]
-    whole = [lot for lot in standing if all(name in lot for name in names if defends(web, lot, name))]
-    return {
-        "standing": standing,
-        "whole": whole,
-        "grounded": [lot for lot in whole if all(set(lot) <= set(other) for other in whole)],
-        "preferred": [lot for lot in standing if not any(set(lot) < set(other) for other in standing)],
-        "stable": [
-            lot for lot in every
-            if peaceful(web, lot) and all(any((by, name) in web[1] for by in lot) for name in names if name not in lot)
-        ],
-    }
 
 
 class Lots(Asking, unittest.TestCase):
