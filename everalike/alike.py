@@ -3,11 +3,10 @@
 from everalike.errors import TooMany
 from everalike.kernels import kernel
 from everalike.kinds import KINDS, check_kind, is_lot_of, lots_apart
-from everalike.webs import check_web, is_web, names_of_both, together
+from everalike.webs import check_web, free_letters, is_web, names_of_both, together
 
 # Two fresh names part webs, and twelve are the most that a web has.
 MOST_TOGETHER = 10
-LETTERS = "abcdefghijklmnopqrstuvwxyz"
 
 
 def are_alike(one, other, kind):
@@ -35,18 +34,13 @@ def check_asked(one, other, kind):
         raise TooMany(many, MOST_TOGETHER)
 
 
-def fresh_names(one, other):
-    """The list of the letters that neither of two webs has as a name."""
-    taken = names_of_both(one, other)
-    return [letter for letter in LETTERS if letter not in taken]
-
-
 def name_parting(one, other, name):
     """A web that parts two webs of which just one has the name."""
     # All but this name are struck by a fresh name that nothing strikes, so it is in a lot of each kind just where it
     # is there and doesn't strike itself. Where it strikes itself in the one, it is put to the other without a strike.
-    fresh = fresh_names(one, other)[0]
-    hit = [each for each in names_of_both(one, other) if each != name]
+    names = names_of_both(one, other)
+    fresh = free_letters(names)[0]
+    hit = [each for each in names if each != name]
     held = [name] if (name, name) in one[1] + other[1] else []
     return (tuple(sorted([*hit, *held, fresh])), tuple([(fresh, each) for each in hit]))
 
@@ -55,7 +49,7 @@ def strike_parting(one, other, strike):
     """A web that parts two webs of the same names, of whose kernels just one has the strike."""
     # A fresh name that nothing strikes leaves the two names of the strike to themselves, and another fresh one, which
     # only the struck name strikes, tells whether that one is struck by a lot.
-    fresh, watch = fresh_names(one, other)[:2]
+    fresh, watch = free_letters(one[0])[:2]
     strikes = [(fresh, name) for name in one[0] if name not in strike] + [(strike[1], watch)]
     return (tuple(sorted([*one[0], fresh, watch])), tuple(sorted(strikes)))
 

@@ -1,9 +1,10 @@
 """The fewest changes of a web that make a lot stand."""
 
-from everalike.errors import NoCount, NoKind, NoShut, TooMany
+from everalike.errors import NoCount, NoKind, NoShut
 from everalike.kinds import JUDGES, is_peaceful
 from everalike.nearest import turned
-from everalike.webs import check_lot, check_web
+from everalike.picking import picks, wider_lots
+from everalike.webs import check_few, check_lot, check_web
 
 MOST_ENFORCED = 5
 MOST_CHANGES = 4
@@ -13,8 +14,7 @@ ENFORCED_KINDS = ("stable", "standing", "whole")
 def check_enforced(web, lot, kind):
     """Refuse what is no web, one of too many names, no lot of it, or no kind that is taken here."""
     check_web(web)
-    if len(web[0]) > MOST_ENFORCED:
-        raise TooMany(len(web[0]), MOST_ENFORCED)
+    check_few(web, MOST_ENFORCED)
     check_lot(web, lot)
     # A thing of anything may be no key of a dict, so it is looked up among the words.
     if kind not in ENFORCED_KINDS:
@@ -27,24 +27,6 @@ def check_limits(strict, most):
         raise NoShut("neither True nor False")
     if not isinstance(most, int) or isinstance(most, bool) or not 0 <= most <= MOST_CHANGES:
         raise NoCount("no whole number of changes from 0 to 4")
-
-
-def wider_lots(names, lot):
-    """The list of the lots of the names that have each name of a lot."""
-    found = [()]
-    for name in names:
-        longer = [(*some, name) for some in found]
-        found = longer if name in lot else found + longer
-    return found
-
-
-def picks(spots, many):
-    """The rising list of the rising tuples of so many of a rising list of spots."""
-    found = [()]
-    while many > 0:
-        found = [(*pick, spot) for pick in found for spot in spots if not pick or pick[-1] < spot]
-        many -= 1
-    return found
 
 
 def is_reached(web, goals, kind):

@@ -1,7 +1,7 @@
 """Kinds of lots: which lots of a web's names stand, in five ways."""
 
 from everalike.errors import NoKind
-from everalike.webs import check_web
+from everalike.webs import check_pair, check_web
 
 
 def is_within(lot, others):
@@ -120,6 +120,14 @@ def check_kind(thing):
     # A thing of anything may be no key of a dict, so it is looked up among the words.
     if thing not in KINDS:
         raise NoKind("no kind of lots")
+
+
+def check_same(one, other, kind):
+    """Refuse what is no web, two webs of unlike names, or no kind of lots."""
+    check_web(one)
+    check_web(other)
+    check_pair(one, other)
+    check_kind(kind)
 
 
 def lots(web, kind):

@@ -2,8 +2,8 @@
 
 from everalike.errors import NoChanges
 from everalike.kernels import fullest, kernel
-from everalike.kinds import check_kind
-from everalike.webs import are_strikes, check_pair, check_web
+from everalike.kinds import check_same
+from everalike.webs import are_strikes, check_web
 
 
 def check_changes(web, thing):
@@ -26,10 +26,7 @@ def changed(web, changes):
 
 def made_alike(one, other, kind):
     """The fewest changes of one web behind which it is alike with another one of the same names for a kind."""
-    check_web(one)
-    check_web(other)
-    check_pair(one, other)
-    check_kind(kind)
+    check_same(one, other, kind)
     # Alike with the other one are just the webs that have its kernel's strikes and none that its fullest web lacks.
     least = kernel(other, kind)[1]
     most = fullest(other, kind)[1]

@@ -4,6 +4,7 @@ from everalike.errors import NoLot, NoName, NoPair, NoWeb, TooMany
 
 LONGEST_NAME = 6
 MOST_NAMES = 12
+LETTERS = "abcdefghijklmnopqrstuvwxyz"
 
 
 def is_name(thing):
@@ -61,18 +62,24 @@ def check_name(web, thing):
         raise NoName("no name of the web")
 
 
-def is_lot(web, thing):
-    """Whether a thing of anything is a lot of a web."""
+def is_lot(thing, names):
+    """Whether a thing of anything is a rising tuple of some of the names."""
     if not isinstance(thing, tuple):
         return False
     # Parts that are no names may not compare, so whether they rise is asked last.
-    return all([part in web[0] for part in thing]) and is_rising(thing)
+    return all([part in names for part in thing]) and is_rising(thing)
 
 
 def check_lot(web, thing):
     """Refuse what is no lot of a web."""
-    if not is_lot(web, thing):
+    if not is_lot(thing, web[0]):
         raise NoLot("no lot of the web, a rising tuple of its names")
+
+
+def check_few(web, most):
+    """Refuse a web of more names than are taken."""
+    if len(web[0]) > most:
+        raise TooMany(len(web[0]), most)
 
 
 def check_pair(one, other):
@@ -98,6 +105,11 @@ def struck(web, name):
 def names_of_both(one, other):
     """The rising list of the names of two webs."""
     return sorted(set(one[0]) | set(other[0]))
+
+
+def free_letters(names):
+    """The list of the letters that are none of the names, of which fresh names are made."""
+    return [letter for letter in LETTERS if letter not in names]
 
 
 def together(one, other):

@@ -1,6 +1,7 @@
 """What several tests need: odd things, webs, and ways to ask."""
 
 import copy
+import functools
 import itertools
 
 LETTERS = "abcdefghijklmnopqrstuvwxyz"
@@ -39,6 +40,13 @@ def row(many):
     """The web in which each name but the last strikes the next one."""
     names = tuple(LETTERS[:many])
     return (names, tuple(zip(names, names[1:])))
+
+
+# Things of anything, none of which is a lot of the names a and b.
+NO_LOTS = ODD + (
+    ["a"], "a", "ab", ("b", "a"), ("a", "a"), ("c",), ("a", "b", "c"), ("a", None), ("a", ["b"]), (("a", "b"),), {"a": 1},
+    ("a", True), "standing", row(2),
+)
 
 
 def ring(many):
@@ -109,9 +117,49 @@ def by_the_words(web):
     }
 
 
+words_of = functools.lru_cache(maxsize=None)(by_the_words)
+
+
+def lots_of_one(one, other, kind):
+    """The rising list of the lots of a kind of just one of two webs, by the words of point [20]."""
+    return sorted({*words_of(one)[kind]} ^ {*words_of(other)[kind]})
+
+
 def put_together(one, other):
     """Two webs put together, straight from the words of point [11], however many names that makes."""
     return (tuple(sorted({*one[0], *other[0]})), tuple(sorted({*one[1], *other[1]})))
+
+
+def lots_beside(one, other, kind, web):
+    """The rising list of the lots of a kind of just one of two webs that a web is put together with."""
+    return lots_of_one(put_together(one, web), put_together(other, web), kind)
+
+
+def webs_inward(names, fresh):
+    """Every web of the names and the fresh ones, each strike of which begins at a fresh one."""
+    return webs_of(names, fresh, [strike for strike in every_strike(names + fresh) if strike[0] in fresh])
+
+
+def webs_outward(names, fresh):
+    """Every web of the names and the fresh ones, each strike of which ends at a fresh one."""
+    return webs_of(names, fresh, [strike for strike in every_strike(names + fresh) if strike[1] in fresh])
+
+
+def webs_of(names, fresh, every):
+    """Every web of the names and the fresh ones with some of the strikes."""
+    every = sorted(every)
+    all_bits = itertools.product((0, 1), repeat=len(every))
+    return [(tuple(sorted(names + fresh)), tuple(itertools.compress(every, bits))) for bits in all_bits]
+
+
+def near_pairs(webs):
+    """Each web with itself, and with each web that has one strike more or less."""
+    told = []
+    for names, strikes in webs:
+        told.append(((names, strikes), (names, strikes)))
+        for strike in every_strike(names):
+            told.append(((names, strikes), (names, tuple(sorted({*strikes} ^ {strike})))))
+    return told
 
 
 def turned_by_hand(web, changes):

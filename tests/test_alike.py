@@ -1,6 +1,5 @@
 """Point [40] and the promise in [5], and what [2], [3] and [4] say of them."""
 
-import functools
 import inspect
 import itertools
 import unittest
@@ -10,15 +9,13 @@ from everalike.errors import NoKind, NoWeb, TooMany
 from everalike.kinds import lots
 from everalike.webs import is_web
 from tests.helper import (
-    KINDS, LETTERS, NO_KINDS, NO_WEBS, ODD, Asking, all_lots, all_webs, by_the_words, every_strike, idle_by_the_words,
-    kernel_by_the_words, picked_webs, put_together, ring, rivals, row,
+    KINDS, LETTERS, NO_KINDS, NO_WEBS, ODD, Asking, all_lots, all_webs, every_strike, idle_by_the_words,
+    kernel_by_the_words, picked_webs, put_together, ring, rivals, row, words_of,
 )
 
 RISING_KINDS = ("grounded", "preferred", "stable", "standing", "whole")
 FEW = [web for names in ("", "a", "b", "c", "ab") for web in all_webs(tuple(names))]
 SIXES = picked_webs(tuple("abcdef"), 30)
-
-words_of = functools.lru_cache(maxsize=None)(by_the_words)
 
 
 def less_idle(web, kind):

@@ -1,6 +1,5 @@
 """Point [51], and what [2], [3] and [4] say of it."""
 
-import functools
 import inspect
 import itertools
 import unittest
@@ -8,22 +7,16 @@ import unittest
 from everalike.enforcing import enforced
 from everalike.errors import NoCount, NoKind, NoLot, NoShut, NoWeb, TooMany
 from tests.helper import (
-    LETTERS, NO_KINDS, NO_WEBS, ODD, Asking, all_lots, all_webs, by_the_words, every_strike, picked_webs, ring, row,
-    turned_by_hand,
+    LETTERS, NO_KINDS, NO_LOTS, NO_WEBS, ODD, Asking, all_lots, all_webs, every_strike, picked_webs, ring, row,
+    turned_by_hand, words_of,
 )
 
 KINDS = ("standing", "whole", "stable")
 BAD_WEB, SIX, BAD_LOT = (("b", "a"), ()), row(6), ("b", "a")
-NO_LOTS = ODD + (
-    ["a"], "a", "ab", ("b", "a"), ("a", "a"), ("c",), ("a", "b", "c"), ("a", None), ("a", ["b"]), (("a", "b"),), {"a": 1},
-    ("a", True), "standing", row(2),
-)
 NO_COUNTS = [
     thing for thing in ODD + ((), "a", "3", "0", (3,), [3], {3: 3}, 5, 6, -2) if repr(thing) not in ("0", "1", "2", "3", "4")
 ]
 NO_TRUTHS = [thing for thing in ODD + ((), "a", "True", (True,), [False]) if thing is not True and thing is not False]
-
-words_of = functools.lru_cache(maxsize=None)(by_the_words)
 
 
 def is_reached(web, lot, kind, strict):
