@@ -135,6 +135,15 @@ def lots_beside(one, other, kind, web):
     return lots_of_one(put_together(one, web), put_together(other, web), kind)
 
 
+def inward_web(names, hit, held):
+    """The web of a test of webs of the names, straight from the words of point [60]."""
+    x, y = [letter for letter in LETTERS if letter not in names][:2]
+    web = put_together(((x,), ()), (hit, tuple((x, name) for name in hit)))
+    if held == ():
+        return web
+    return put_together(web, put_together(((y,), ((y, y),)), (held, tuple((y, name) for name in held))))
+
+
 def webs_inward(names, fresh):
     """Every web of the names and the fresh ones, each strike of which begins at a fresh one."""
     return webs_of(names, fresh, [strike for strike in every_strike(names + fresh) if strike[0] in fresh])

@@ -8,20 +8,11 @@ from everalike.errors import NoKind, NoLot, NoPair, NoWeb, TooMany
 from everalike.inward import inward, test_web
 from everalike.webs import is_web
 from tests.helper import (
-    KINDS, LETTERS, NO_KINDS, NO_LOTS, NO_WEBS, Asking, all_lots, all_webs, every_strike, kernel_by_the_words,
-    lots_beside, near_pairs, picked_webs, put_together, ring, row, webs_inward,
+    KINDS, LETTERS, NO_KINDS, NO_LOTS, NO_WEBS, Asking, all_lots, all_webs, every_strike, inward_web,
+    kernel_by_the_words, lots_beside, near_pairs, picked_webs, ring, row, webs_inward,
 )
 
 BAD = (("b", "a"), ())
-
-
-def web_by_the_words(names, hit, held):
-    """The web of a test of webs of the names, straight from the words of the point."""
-    x, y = [letter for letter in LETTERS if letter not in names][:2]
-    web = put_together(((x,), ()), (hit, tuple((x, name) for name in hit)))
-    if held == ():
-        return web
-    return put_together(web, put_together(((y,), ((y, y),)), (held, tuple((y, name) for name in held))))
 
 
 def tests_by_the_words(names):
@@ -33,7 +24,7 @@ def tests_by_the_words(names):
 def one_by_one(one, other, kind):
     """What is to be told, by all tests gone through one by one."""
     for hit, held in tests_by_the_words(one[0]):
-        apart = lots_beside(one, other, kind, web_by_the_words(one[0], hit, held))
+        apart = lots_beside(one, other, kind, inward_web(one[0], hit, held))
         if apart:
             return ("parted", hit, held, apart[0])
     return ("alike",)
@@ -70,7 +61,7 @@ class WebOfTest(Asking, unittest.TestCase):
             for hit, held in tests_by_the_words(names):
                 told = test_web(webs[0], webs[1], hit, held)
                 self.assertTrue(is_web(told))
-                self.assertEqual(told, web_by_the_words(names, hit, held))
+                self.assertEqual(told, inward_web(names, hit, held))
 
     def test_strikes_of_the_webs_do_not_matter(self):
         for one, other in itertools.product(all_webs(("a", "b")), repeat=2):
@@ -80,7 +71,7 @@ class WebOfTest(Asking, unittest.TestCase):
         # No bound is told of test_web: twelve names of which each is hit or held make fourteen.
         names = tuple(LETTERS[:12])
         for hit, held in ((names, ()), ((), names), (names[:6], names[6:]), (names[::2], names[1::2]), (("a",), ("l",))):
-            self.assertEqual(test_web(row(12), ring(12), hit, held), web_by_the_words(names, hit, held))
+            self.assertEqual(test_web(row(12), ring(12), hit, held), inward_web(names, hit, held))
 
     def test_the_same_again_and_by_name(self):
         for hit, held in tests_by_the_words(("a", "b", "c")):
@@ -168,6 +159,18 @@ class Inward(Asking, unittest.TestCase):
         for kind in ("grounded", "preferred", "whole"):
             self.assertEqual(inward(one, other, kind), ("parted", ("c",), ("d",), ("a", "e")))
             self.assertEqual(inward(other, one, kind), ("parted", ("c",), ("d",), ("a", "e")))
+        self.looked_at(one, other)
+
+    def test_the_first_of_several_tests(self):
+        # Hitting c and holding a would part these too, behind hitting both.
+        names = ("a", "b", "c", "d")
+        one, other = (names, (("a", "b"), ("c", "d"))), (names, (("a", "b"), ("b", "d"), ("c", "d")))
+        self.assertEqual(lots_beside(one, other, "grounded", inward_web(names, ("c",), ("a",))), [("d", "e"), ("e",)])
+        self.assertEqual(inward(one, other, "grounded")[:3], ("parted", ("a", "c"), ()))
+        self.looked_at(one, other)
+        # Hitting d would part these too, behind holding it.
+        one, other = (names, (("b", "a"), ("d", "b"))), (names, (("d", "b"),))
+        self.assertEqual(inward(one, other, "grounded")[:3], ("parted", (), ("d",)))
         self.looked_at(one, other)
 
     def test_each_size_of_a_test_is_told(self):
